@@ -1,0 +1,1 @@
+"""A counting frame, every move told."""
