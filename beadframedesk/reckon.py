@@ -3,7 +3,7 @@
 Nothing is refused here: whoever calls has seen to it that the frame has room.
 """
 
-from beadframedesk.beads import LOWER_DOWN, LOWER_UP, RODS, UPPER_DOWN, UPPER_UP
+from beadframedesk.beads import LIMIT, LOWER_BEADS, LOWER_DOWN, LOWER_UP, RODS, UPPER_DOWN, UPPER_UP
 
 
 def put_on(frame, rod, digit):
@@ -12,7 +12,7 @@ def put_on(frame, rod, digit):
         frame.make(rod, UPPER_DOWN, 1)
         if digit > 5:
             frame.make(rod, LOWER_UP, digit - 5)
-    elif frame.lowers_up[rod] + digit <= 4:
+    elif frame.lowers_up[rod] + digit <= LOWER_BEADS:
         frame.make(rod, LOWER_UP, digit)
     else:
         frame.make(rod, UPPER_DOWN, 1)
@@ -83,6 +83,19 @@ def add_product(frame, a, b):
     for place_a, digit_a in placed_digits(a):
         for place_b, digit_b in digits_of_b:
             add_number(frame, place_a + place_b, digit_a * digit_b)
+
+
+def take_out(frame, divisor):
+    """Take a divisor away as often as it goes, place by place: how often that was."""
+    quotient = 0
+    at_place = divisor * LIMIT
+    for place in range(RODS - 1, -1, -1):
+        at_place = at_place // 10
+        # One digit: less than the divisor at the place above is shown by now.
+        digit = frame.shown() // at_place
+        take_number(frame, place, digit * divisor)
+        quotient = 10 * quotient + digit
+    return quotient
 
 
 def clear_rods(frame):

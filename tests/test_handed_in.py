@@ -18,7 +18,9 @@ class NeverChanged(list):
 
 def many_calls():
     return as_list(("start",), ("set", 987), ("add", 6), ("take", 1000), ("times", 12, 34),
-                   ("add", GREATEST), ("start",), ("add", 55), ("take", 6), ("times", GREATEST, 0))
+                   ("add", GREATEST), ("over", 7), ("move", 11, 2, 1), ("move", 12, 0, 1), ("value",),
+                   ("rod", 11), ("rod", 12), ("over", 0), ("start",), ("add", 55), ("take", 6),
+                   ("move", 0, 0, 2), ("move", 0, 1, 4), ("times", GREATEST, 0), ("value",))
 
 
 class HandedIn(unittest.TestCase):
@@ -47,6 +49,14 @@ class NothingKept(unittest.TestCase):
     def test_a_frame_is_new_each_time(self):
         answers(as_list(("start",), ("set", 999999999999)))
         self.assertEqual(answers(as_list(("start",), ("add", 1))), [1, 0, 4, 1, 0, 0, 1])
+
+    def test_beads_moved_by_hand_are_not_kept(self):
+        answers(as_list(("start",), ("move", 4, 2, 1), ("move", 4, 0, 3)))
+        self.assertEqual(answers(as_list(("start",), ("value",), ("rod", 4))), [1, 0, 2, 0, 0, 3, 0, 0, 0])
+
+    def test_a_list_that_is_refused_much_leaves_nothing(self):
+        answers(as_list(("start",), ("move", 0, 0, 4), ("over", 0), ("move", 0, 0, 1), ("rod", 12)))
+        self.assertEqual(answers(as_list(("start",), ("over", 1))), [1, 0, 2, 0, 0])
 
     def test_what_was_given_back_is_not_used_again(self):
         handed = many_calls()
